@@ -1,0 +1,1 @@
+"""Buddyyard: cells given out in halves of halves."""
